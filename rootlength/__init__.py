@@ -1,0 +1,1 @@
+"""Lengths of glass, exactly."""
