@@ -2,8 +2,9 @@
 
 from rootlength.drawing import read_drawing
 from rootlength.pieces import squared_length
-from rootlength.roots import difference, has_too_many, side_of_zero, whole_part
+from rootlength.roots import difference, has_too_many, scaled_less, side_of_zero, whole_above, whole_part
 
+NOT_REFUSED = 0
 TOO_LONG = -2
 NO_DRAWING = -6
 OUT_OF_RANGE = -1
@@ -19,41 +20,76 @@ def has_other_pieces(a, pieces):
     return a >> len(pieces) != 0
 
 
+def look_at(t, in_range, sets):
+    """(NOT_REFUSED, the pieces of t's drawing), or (the number of the first refusal that holds, no pieces)."""
+    if len(t) > MOST_BYTES:
+        return (TOO_LONG, [])
+    pieces = read_drawing(t)
+    if pieces is None:
+        return (NO_DRAWING, [])
+    if not in_range:
+        return (OUT_OF_RANGE, [])
+    if any([has_other_pieces(a, pieces) for a in sets]):
+        return (NO_SUCH_PIECE, [])
+    return (NOT_REFUSED, pieces)
+
+
 def roots_of(a, pieces):
     """For each piece of the set a the n whose root is its length."""
     return [squared_length(piece) for i, piece in enumerate(pieces) if (a >> i) & 1 == 1]
 
 
-def length(a, k, t):
-    """[0, the greatest whole number that's at most 10^k times the length of t's pieces a], or a refusal."""
-    if len(t) > MOST_BYTES:
-        return [TOO_LONG]
-    pieces = read_drawing(t)
-    if pieces is None:
-        return [NO_DRAWING]
-    if k >= len(POWERS_OF_TEN):
-        return [OUT_OF_RANGE]
-    if has_other_pieces(a, pieces):
-        return [NO_SUCH_PIECE]
-    kinds = difference(roots_of(a, pieces), [])
+def tell_whole_part(kinds, k):
+    """[0, the greatest whole number that's at most 10^k times the sum], or a refusal."""
     if has_too_many(kinds):
         return [TOO_MANY_KINDS]
     return [0, whole_part(kinds, POWERS_OF_TEN[k])]
 
 
-def compare(a, b, t):
-    """[0] if t's pieces a are as long as its pieces b, [1] if they are shorter, [2] if longer, or a refusal."""
-    if len(t) > MOST_BYTES:
-        return [TOO_LONG]
-    pieces = read_drawing(t)
-    if pieces is None:
-        return [NO_DRAWING]
-    if has_other_pieces(a, pieces) or has_other_pieces(b, pieces):
-        return [NO_SUCH_PIECE]
-    kinds = difference(roots_of(a, pieces), roots_of(b, pieces))
+def tell_order(kinds):
+    """[0] if the difference is 0, [1] if it's below 0, [2] if it's above, or a refusal."""
     if has_too_many(kinds):
         return [TOO_MANY_KINDS]
     side = side_of_zero(kinds)
     if side == 0:
         return [0]
     return [1] if side < 0 else [2]
+
+
+def length(a, k, t):
+    """[0, the greatest whole number that's at most 10^k times the length of t's pieces a], or a refusal."""
+    found = look_at(t, k < len(POWERS_OF_TEN), [a])
+    if found[0] != NOT_REFUSED:
+        return [found[0]]
+    return tell_whole_part(difference(roots_of(a, found[1]), []), k)
+
+
+def compare(a, b, t):
+    """[0] if t's pieces a are as long as its pieces b, [1] if they are shorter, [2] if longer, or a refusal."""
+    found = look_at(t, True, [a, b])
+    if found[0] != NOT_REFUSED:
+        return [found[0]]
+    return tell_order(difference(roots_of(a, found[1]), roots_of(b, found[1])))
+
+
+def beyond(a, c, d, t):
+    """[1] if t's pieces a are longer than c / d, [0] if they aren't, or a refusal."""
+    found = look_at(t, d > 0, [a])
+    if found[0] != NOT_REFUSED:
+        return [found[0]]
+    kinds = scaled_less(difference(roots_of(a, found[1]), []), d, c)
+    if has_too_many(kinds):
+        return [TOO_MANY_KINDS]
+    return [1] if side_of_zero(kinds) > 0 else [0]
+
+
+def sticks(a, d, t):
+    """[0, the least whole number m such that m d is at least the length of t's pieces a], or a refusal."""
+    found = look_at(t, d > 0, [a])
+    if found[0] != NOT_REFUSED:
+        return [found[0]]
+    kinds = difference(roots_of(a, found[1]), [])
+    if has_too_many(kinds):
+        return [TOO_MANY_KINDS]
+    # m d is whole, so it's at least the length just if it's at least the first whole number that is.
+    return [0, (whole_above(kinds) + d - 1) // d]

@@ -18,6 +18,15 @@ def kind_and_factor(n):
     return (s, c)
 
 
+def without_zeros(times):
+    """The same sum, told by those kinds alone of which it has some."""
+    kinds = {}
+    for s, many in times.items():
+        if many != 0:
+            kinds[s] = many
+    return kinds
+
+
 def difference(first, second):
     """The sum of first's roots less that of second's; first and second are lists of numbers above 0."""
     times = {}
@@ -27,11 +36,16 @@ def difference(first, second):
     for n in second:
         found = kind_and_factor(n)
         times[found[0]] = times.get(found[0], 0) - found[1]
-    kinds = {}
-    for s in times:
-        if times[s] != 0:
-            kinds[s] = times[s]
-    return kinds
+    return without_zeros(times)
+
+
+def scaled_less(kinds, d, c):
+    """d times the sum, less the whole number c, for d above 0."""
+    times = {}
+    for s, many in kinds.items():
+        times[s] = d * many
+    times[1] = times.get(1, 0) - c
+    return without_zeros(times)
 
 
 def has_too_many(kinds):
@@ -86,3 +100,10 @@ def whole_part(kinds, factor):
         places = 2 * places
         bounds = enclose(kinds, places)
     return (factor * bounds[0]) >> places
+
+
+def whole_above(kinds):
+    """The least whole number that's at least the sum."""
+    below = whole_part(kinds, 1)
+    # A sum with a kind other than 1 is never whole, one without always is.
+    return below if all([s == 1 for s in kinds]) else below + 1

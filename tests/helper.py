@@ -14,6 +14,28 @@ DIRECTIONS = {
 }
 OTHER_KINDS = [s for s in DIRECTIONS if s != 1]
 
+# Sums of ten kinds, the ten of DIRECTIONS in order, within less than 2^-80 of a whole number.
+NEAR_WHOLE = [
+    # k, how often each kind's root, the whole number next to 10^k times the sum, whether the sum is above it
+    (0, (1318, 510, 125, 340, 247, 207, 276, 344, 276, 268), 13589, False),
+    (0, (2473, 1191, 667, 1028, 971, 557, 414, 478, 513, 406), 29591, False),
+    (0, (1613, 634, 622, 607, 714, 473, 268, 246, 354, 370), 20605, True),
+    (0, (800, 1340, 952, 372, 942, 346, 534, 847, 482, 260), 26610, True),
+    (6, (1037, 473, 299, 206, 410, 338, 211, 226, 369, 151), 13361720991, False),
+    (6, (1560, 1212, 712, 546, 445, 370, 357, 316, 210, 291), 19737704081, False),
+    (6, (931, 970, 550, 445, 494, 296, 391, 203, 403, 250), 17765898125, True),
+]
+
+# Differences of ten kinds (those of DIRECTIONS in order) and kind 1 that are next to nothing.
+NEAR_NOTHING = [
+    # how often each kind's root, how often 1, how many binary places don't tell the two sums apart
+    ((-375, -235, 80, 50, -65, 68, 30, -12, -32, 62), 280, 82),
+    ((-496, -42, 18, -227, 146, 36, 54, 165, -100, -39), 396, 90),
+    ((-70, -848, -347, 240, -140, 142, 108, -95, 205, 85), 223, 99),
+    ((4712, -4178, 227, 726, -160, 1, -106, 377, 203, 77), -3398, 116),
+    ((-1154, -3394, 398, 389, 27, -689, 8, 1684, -43, -412), 2881, 115),
+]
+
 CELL = 512
 CELLS_IN_A_ROW = 8
 
@@ -31,17 +53,18 @@ for method in ("append", "extend", "insert", "pop", "remove", "clear", "sort", "
     setattr(Unchanging, method, refuse_change)
 
 
-def ask(call, first, second, t):
-    """What the call answers, if it does so twice, silently, as plain whole numbers, and leaves t alone."""
-    plain = list(t)
+def ask(call, *handed_in):
+    """What the call answers, if it does so twice, silently, as plain whole numbers, and leaves the lists alone."""
+    watched = [Unchanging(thing) if isinstance(thing, list) else thing for thing in handed_in]
+    plain = [list(thing) if isinstance(thing, list) else thing for thing in handed_in]
     said = io.StringIO()
     with contextlib.redirect_stdout(said), contextlib.redirect_stderr(said):
-        answer = call(first, second, Unchanging(t))
+        answer = call(*watched)
         told = list(answer)
         answer.append("spoilt")
-        again = call(first, second, plain)
+        again = call(*plain)
     assert said.getvalue() == "", "something was printed"
-    assert plain == list(t), "the text was changed"
+    assert plain == list(handed_in), "what was handed in was changed"
     assert type(again) is list and all(type(number) is int for number in again), again
     assert told == again, (told, again)
     return again
@@ -55,12 +78,20 @@ def compare(a, b, t):
     return ask(lengths.compare, a, b, t)
 
 
+def beyond(a, c, d, t):
+    return ask(lengths.beyond, a, c, d, t)
+
+
+def sticks(a, d, t):
+    return ask(lengths.sticks, a, d, t)
+
+
 def is_drawing(t):
-    """Whether both calls take t as a drawing's text."""
-    answers = (length(0, 0, t), compare(0, 0, t))
-    if answers == ([0, 0], [0]):
+    """Whether every call takes t as a drawing's text."""
+    answers = (length(0, 0, t), compare(0, 0, t), beyond(0, 0, 1, t), sticks(0, 1, t))
+    if answers == ([0, 0], [0], [0], [0, 0]):
         return True
-    assert answers == ([-6], [-6]), answers
+    assert answers == ([-6], [-6], [-6], [-6]), answers
     return False
 
 
@@ -154,6 +185,42 @@ def compare_asked(plus, minus):
     low, high = enclosed(kinds)
     assert not kinds or low > 0 or high < 0
     return [2] if low > 0 else [1] if high < 0 else [0]
+
+
+def beyond_asked(roots, c, d):
+    """What beyond must answer of pieces with these squared lengths."""
+    kinds = kinds_of(roots)
+    if refused_for_kinds(kinds):
+        return [-8]
+    low, high = enclosed(kinds)
+    assert low == high or not low <= Fraction(c, d) <= high
+    return [1] if low > Fraction(c, d) else [0]
+
+
+def sticks_asked(roots, d):
+    """What sticks must answer of pieces with these squared lengths."""
+    kinds = kinds_of(roots)
+    if refused_for_kinds(kinds):
+        return [-8]
+    low, high = enclosed(kinds)
+    assert -(-low // d) == -(-high // d)
+    return [0, -(-low // d)]
+
+
+def fractions_near(kinds, limit=2**64):
+    """Pairs (c, d) below the limit, each pair's fraction nearer to the sum than all simpler ones, by turns on its sides."""
+    rest = enclosed(kinds)[0]
+    before, now = (0, 1), (1, 0)
+    found = []
+    while True:
+        whole = rest // 1
+        before, now = now, (whole * now[0] + before[0], whole * now[1] + before[1])
+        if max(now) >= limit:
+            return found
+        found.append(now)
+        if rest == whole:
+            return found
+        rest = 1 / (rest - whole)
 
 
 class Numbers:

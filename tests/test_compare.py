@@ -2,17 +2,8 @@
 
 import unittest
 
-from tests.helper import DIRECTIONS, OTHER_KINDS, Numbers, both_sides, compare, compare_asked, enclosed, lay, text
-
-# Differences of ten kinds (those of DIRECTIONS in order) and kind 1 that are next to nothing.
-NEAR_NOTHING = [
-    # how often each kind's root, how often 1, how many binary places don't tell the two sums apart
-    ((-375, -235, 80, 50, -65, 68, 30, -12, -32, 62), 280, 82),
-    ((-496, -42, 18, -227, 146, 36, 54, 165, -100, -39), 396, 90),
-    ((-70, -848, -347, 240, -140, 142, 108, -95, 205, 85), 223, 99),
-    ((4712, -4178, 227, 726, -160, 1, -106, 377, 203, 77), -3398, 116),
-    ((-1154, -3394, 398, 389, 27, -689, 8, 1684, -43, -412), 2881, 115),
-]
+from tests.helper import (DIRECTIONS, NEAR_NOTHING, OTHER_KINDS, Numbers, both_sides, compare, compare_asked, enclosed,
+                          lay, text)
 
 
 class OrdinaryComparisons(unittest.TestCase):

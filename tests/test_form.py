@@ -9,6 +9,8 @@ import unittest
 from rootlength import lengths
 
 PACKAGE = pathlib.Path(lengths.__file__).parent
+README = PACKAGE.parent / "README.md"
+CALLS = {"length", "compare", "beyond", "sticks"}
 SOURCES = {path.name: path.read_text(encoding="utf-8") for path in sorted(PACKAGE.glob("*.py"))}
 
 CALLABLE = {"len", "range", "enumerate", "zip", "min", "max", "sum", "abs", "sorted", "reversed", "int", "str", "bool",
@@ -26,11 +28,30 @@ class Interface(unittest.TestCase):
     def test_names_and_order_of_arguments(self):
         self.assertEqual(list(inspect.signature(lengths.length).parameters), ["a", "k", "t"])
         self.assertEqual(list(inspect.signature(lengths.compare).parameters), ["a", "b", "t"])
+        self.assertEqual(list(inspect.signature(lengths.beyond).parameters), ["a", "c", "d", "t"])
+        self.assertEqual(list(inspect.signature(lengths.sticks).parameters), ["a", "d", "t"])
 
     def test_by_name(self):
         t = list(b"sign A\nstroke 0,0 3,4\n")
         self.assertEqual(lengths.length(a=1, k=2, t=t), [0, 500])
         self.assertEqual(lengths.compare(a=0, b=1, t=t), [1])
+        self.assertEqual(lengths.beyond(a=1, c=9, d=2, t=t), [1])
+        self.assertEqual(lengths.sticks(a=1, d=2, t=t), [0, 3])
+
+
+class Readme(unittest.TestCase):
+    def test_examples(self):
+        block = README.read_text(encoding="utf-8").split("```python\n")[1].split("```")[0]
+        names = {}
+        tried = set()
+        for row in block.splitlines():
+            if "  # [" not in row:
+                exec(row, names)
+                continue
+            asked = row.split("# ")[1].split("]")[0] + "]"
+            self.assertEqual(repr(eval(row, names)), asked, row)
+            tried.add(row.split("(")[0])
+        self.assertEqual(tried, CALLS)
 
 
 class Files(unittest.TestCase):

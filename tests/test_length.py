@@ -2,19 +2,7 @@
 
 import unittest
 
-from tests.helper import DIRECTIONS, OTHER_KINDS, Numbers, both_sides, lay, length, length_asked, text
-
-# Sums of ten kinds, the ten of DIRECTIONS in order, within less than 2^-80 of a whole number.
-NEAR_WHOLE = [
-    # k, how often each kind's root, the whole number next to 10^k times the sum, whether the sum is above it
-    (0, (1318, 510, 125, 340, 247, 207, 276, 344, 276, 268), 13589, False),
-    (0, (2473, 1191, 667, 1028, 971, 557, 414, 478, 513, 406), 29591, False),
-    (0, (1613, 634, 622, 607, 714, 473, 268, 246, 354, 370), 20605, True),
-    (0, (800, 1340, 952, 372, 942, 346, 534, 847, 482, 260), 26610, True),
-    (6, (1037, 473, 299, 206, 410, 338, 211, 226, 369, 151), 13361720991, False),
-    (6, (1560, 1212, 712, 546, 445, 370, 357, 316, 210, 291), 19737704081, False),
-    (6, (931, 970, 550, 445, 494, 296, 391, 203, 403, 250), 17765898125, True),
-]
+from tests.helper import DIRECTIONS, NEAR_WHOLE, OTHER_KINDS, Numbers, both_sides, lay, length, length_asked, text
 
 
 class OrdinaryLengths(unittest.TestCase):

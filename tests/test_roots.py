@@ -6,7 +6,8 @@ from math import isqrt
 from unittest import mock
 
 from rootlength import roots
-from tests.helper import OTHER_KINDS, Numbers, compare, compare_asked, enclosed, kinds_of, lay, length, length_asked
+from tests.helper import (OTHER_KINDS, Numbers, beyond, beyond_asked, compare, compare_asked, enclosed, kinds_of, lay,
+                          length, length_asked, sticks, sticks_asked)
 
 GREATEST = 33538050
 
@@ -24,6 +25,15 @@ class Kinds(unittest.TestCase):
         self.assertEqual(roots.difference([8], [2, 2]), {})
         self.assertEqual(roots.difference([8, 9, 5], [2, 5]), {2: 1, 1: 3})
         self.assertEqual(roots.difference([2], [8, 4, 45]), {2: -1, 1: -2, 5: -3})
+
+    def test_scaled_less(self):
+        self.assertEqual(roots.scaled_less({}, 7, 0), {})
+        self.assertEqual(roots.scaled_less({}, 7, 3), {1: -3})
+        self.assertEqual(roots.scaled_less({1: 2, 5: 3}, 4, 8), {5: 12})
+        self.assertEqual(roots.scaled_less({1: 2, 5: 3}, 4, 7), {1: 1, 5: 12})
+        kinds = {1: 2, 5: 3}
+        roots.scaled_less(kinds, 4, 8)
+        self.assertEqual(kinds, {1: 2, 5: 3})
 
 
 class Bounds(unittest.TestCase):
@@ -52,7 +62,7 @@ class Bounds(unittest.TestCase):
 class AnyFirstPlaces(unittest.TestCase):
     """However wide the bounds are at first, they are narrowed until they tell."""
 
-    def test_compare_and_length(self):
+    def test_calls(self):
         numbers = Numbers(29)
         for first_places in (1, 2, 3, 4):
             with mock.patch.object(roots, "FIRST_PLACES", first_places):
@@ -64,6 +74,9 @@ class AnyFirstPlaces(unittest.TestCase):
                     self.assertEqual(compare(a, b, lay(vectors)), compare_asked(squares[:part], squares[part:]))
                     k = numbers.below(7)
                     self.assertEqual(length(a, k, lay(vectors)), length_asked(squares[:part], k))
+                    c, d = numbers.below(50), 1 + numbers.below(5)
+                    self.assertEqual(beyond(a, c, d, lay(vectors)), beyond_asked(squares[:part], c, d))
+                    self.assertEqual(sticks(a, d, lay(vectors)), sticks_asked(squares[:part], d))
 
 
 if __name__ == "__main__":

@@ -3,7 +3,7 @@
 import unittest
 from fractions import Fraction
 
-from tests.helper import Numbers, as_bytes, compare, is_drawing, length, text
+from tests.helper import Numbers, as_bytes, beyond, compare, is_drawing, length, sticks, text
 
 LINE_0 = "sign A\n"
 
@@ -18,6 +18,8 @@ class TextCase(unittest.TestCase):
         self.assertFalse(is_drawing(t), letters)
         self.assertEqual(length(1, 6, t), [-6])
         self.assertEqual(compare(1, 0, t), [-6])
+        self.assertEqual(beyond(1, 0, 1, t), [-6])
+        self.assertEqual(sticks(1, 1, t), [-6])
 
 
 class Lines(TextCase):
