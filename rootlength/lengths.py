@@ -12,12 +12,19 @@ NO_SUCH_PIECE = -4
 TOO_MANY_KINDS = -8
 
 MOST_BYTES = 65536
+MOST_NUMBERS = 64
+GREATEST_NUMBER = 33538050
 POWERS_OF_TEN = (1, 10, 100, 1000, 10000, 100000, 1000000)
 
 
 def has_other_pieces(a, pieces):
     """Whether the set a has a piece that isn't among the pieces."""
     return a >> len(pieces) != 0
+
+
+def has_too_great(numbers):
+    """Whether one of the numbers is greater than any whose root may be in a sum."""
+    return any([n > GREATEST_NUMBER for n in numbers])
 
 
 def look_at(t, in_range, sets):
@@ -32,6 +39,15 @@ def look_at(t, in_range, sets):
     if any([has_other_pieces(a, pieces) for a in sets]):
         return (NO_SUCH_PIECE, [])
     return (NOT_REFUSED, pieces)
+
+
+def look_at_lists(in_range, lists):
+    """NOT_REFUSED, or the number of the first refusal that holds."""
+    if any([len(numbers) > MOST_NUMBERS for numbers in lists]):
+        return TOO_LONG
+    if not in_range or any([has_too_great(numbers) for numbers in lists]):
+        return OUT_OF_RANGE
+    return NOT_REFUSED
 
 
 def roots_of(a, pieces):
@@ -93,3 +109,19 @@ def sticks(a, d, t):
         return [TOO_MANY_KINDS]
     # m d is whole, so it's at least the length just if it's at least the first whole number that is.
     return [0, (whole_above(kinds) + d - 1) // d]
+
+
+def floor(k, u):
+    """[0, the greatest whole number that's at most 10^k times the sum of u's roots], or a refusal."""
+    refused = look_at_lists(k < len(POWERS_OF_TEN), [u])
+    if refused != NOT_REFUSED:
+        return [refused]
+    return tell_whole_part(difference(u, []), k)
+
+
+def order(u, v):
+    """[0] if the sum of u's roots is that of v's, [1] if it's less, [2] if it's more, or a refusal."""
+    refused = look_at_lists(True, [u, v])
+    if refused != NOT_REFUSED:
+        return [refused]
+    return tell_order(difference(u, v))

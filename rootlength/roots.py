@@ -27,15 +27,20 @@ def without_zeros(times):
     return kinds
 
 
+def add_roots(times, numbers, way):
+    """Adds way times the roots of the numbers, kind by kind, to times."""
+    for n in numbers:
+        # The root of 0 adds nothing, and is of no kind.
+        if n > 0:
+            found = kind_and_factor(n)
+            times[found[0]] = times.get(found[0], 0) + way * found[1]
+
+
 def difference(first, second):
-    """The sum of first's roots less that of second's; first and second are lists of numbers above 0."""
+    """The sum of first's roots less that of second's; first and second are lists of numbers."""
     times = {}
-    for n in first:
-        found = kind_and_factor(n)
-        times[found[0]] = times.get(found[0], 0) + found[1]
-    for n in second:
-        found = kind_and_factor(n)
-        times[found[0]] = times.get(found[0], 0) - found[1]
+    add_roots(times, first, 1)
+    add_roots(times, second, -1)
     return without_zeros(times)
 
 

@@ -36,6 +36,8 @@ NEAR_NOTHING = [
     ((-1154, -3394, 398, 389, 27, -689, 8, 1684, -43, -412), 2881, 115),
 ]
 
+GREATEST_NUMBER = 33538050
+
 CELL = 512
 CELLS_IN_A_ROW = 8
 
@@ -86,8 +88,16 @@ def sticks(a, d, t):
     return ask(lengths.sticks, a, d, t)
 
 
+def floor(k, u):
+    return ask(lengths.floor, k, u)
+
+
+def order(u, v):
+    return ask(lengths.order, u, v)
+
+
 def is_drawing(t):
-    """Whether every call takes t as a drawing's text."""
+    """Whether every call that is handed a text takes t as a drawing's text."""
     answers = (length(0, 0, t), compare(0, 0, t), beyond(0, 0, 1, t), sticks(0, 1, t))
     if answers == ([0, 0], [0], [0], [0, 0]):
         return True
@@ -142,11 +152,30 @@ def both_sides(kinds):
     return lay(vectors), sets[0], sets[1]
 
 
+def numbers_for(s, times):
+    """Numbers whose roots are `times` roots of s together, each one that a list may hold."""
+    most = isqrt(GREATEST_NUMBER // s)
+    found = []
+    while times > 0:
+        c = min(times, most)
+        found.append(c * c * s)
+        times -= c
+    return found
+
+
+def both_lists(kinds):
+    """(u, v): the sums' difference has kinds[s] times the root of s, u the positive ones, v the negative ones."""
+    lists = [[], []]
+    for s, times in kinds.items():
+        lists[times < 0] += numbers_for(s, abs(times))
+    return lists[0], lists[1]
+
+
 def kinds_of(plus, minus=()):
     """As the document tells: how much of each kind the roots of plus have more than those of minus."""
     kinds = {}
     for roots, way in ((plus, 1), (minus, -1)):
-        for n in roots:
+        for n in [n for n in roots if n > 0]:
             c = max(c for c in range(1, isqrt(n) + 1) if n % (c * c) == 0)
             kinds[n // (c * c)] = kinds.get(n // (c * c), 0) + way * c
     return {s: times for s, times in kinds.items() if times != 0}
@@ -168,7 +197,7 @@ def refused_for_kinds(kinds):
 
 
 def length_asked(roots, k):
-    """What length must answer of pieces with these squared lengths."""
+    """What length must answer of pieces with these squared lengths, and floor of these numbers."""
     kinds = kinds_of(roots)
     if refused_for_kinds(kinds):
         return [-8]
@@ -178,7 +207,7 @@ def length_asked(roots, k):
 
 
 def compare_asked(plus, minus):
-    """What compare must answer of two sets of pieces with these squared lengths."""
+    """What compare must answer of two sets of pieces with these squared lengths, and order of these numbers."""
     kinds = kinds_of(plus, minus)
     if refused_for_kinds(kinds):
         return [-8]

@@ -10,7 +10,7 @@ from rootlength import lengths
 
 PACKAGE = pathlib.Path(lengths.__file__).parent
 README = PACKAGE.parent / "README.md"
-CALLS = {"length", "compare", "beyond", "sticks"}
+CALLS = {"length", "compare", "beyond", "sticks", "floor", "order"}
 SOURCES = {path.name: path.read_text(encoding="utf-8") for path in sorted(PACKAGE.glob("*.py"))}
 
 CALLABLE = {"len", "range", "enumerate", "zip", "min", "max", "sum", "abs", "sorted", "reversed", "int", "str", "bool",
@@ -30,6 +30,8 @@ class Interface(unittest.TestCase):
         self.assertEqual(list(inspect.signature(lengths.compare).parameters), ["a", "b", "t"])
         self.assertEqual(list(inspect.signature(lengths.beyond).parameters), ["a", "c", "d", "t"])
         self.assertEqual(list(inspect.signature(lengths.sticks).parameters), ["a", "d", "t"])
+        self.assertEqual(list(inspect.signature(lengths.floor).parameters), ["k", "u"])
+        self.assertEqual(list(inspect.signature(lengths.order).parameters), ["u", "v"])
 
     def test_by_name(self):
         t = list(b"sign A\nstroke 0,0 3,4\n")
@@ -37,6 +39,8 @@ class Interface(unittest.TestCase):
         self.assertEqual(lengths.compare(a=0, b=1, t=t), [1])
         self.assertEqual(lengths.beyond(a=1, c=9, d=2, t=t), [1])
         self.assertEqual(lengths.sticks(a=1, d=2, t=t), [0, 3])
+        self.assertEqual(lengths.floor(k=1, u=[2, 9]), [0, 44])
+        self.assertEqual(lengths.order(u=[2], v=[3]), [1])
 
 
 class Readme(unittest.TestCase):

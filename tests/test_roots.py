@@ -23,6 +23,8 @@ class Kinds(unittest.TestCase):
     def test_difference(self):
         self.assertEqual(roots.difference([], []), {})
         self.assertEqual(roots.difference([8], [2, 2]), {})
+        self.assertEqual(roots.difference([0, 8, 0], [2, 2, 0]), {})
+        self.assertEqual(roots.difference([0], []), {})
         self.assertEqual(roots.difference([8, 9, 5], [2, 5]), {2: 1, 1: 3})
         self.assertEqual(roots.difference([2], [8, 4, 45]), {2: -1, 1: -2, 5: -3})
 
