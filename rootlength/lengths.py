@@ -2,7 +2,8 @@
 
 from rootlength.drawing import read_drawing
 from rootlength.pieces import squared_length
-from rootlength.roots import difference, has_too_many, scaled_less, side_of_zero, whole_above, whole_part
+from rootlength.roots import difference, has_too_many, kind_and_factor
+from rootlength.roots import scaled_less, side_of_zero, whole_above, whole_part
 
 NOT_REFUSED = 0
 TOO_LONG = -2
@@ -10,6 +11,7 @@ NO_DRAWING = -6
 OUT_OF_RANGE = -1
 NO_SUCH_PIECE = -4
 TOO_MANY_KINDS = -8
+NONE_THERE = -5
 
 MOST_BYTES = 65536
 MOST_NUMBERS = 64
@@ -125,3 +127,13 @@ def order(u, v):
     if refused != NOT_REFUSED:
         return [refused]
     return tell_order(difference(u, v))
+
+
+def kind(n):
+    """[0, n's kind s, the c above 0 with n = c c s], or a refusal."""
+    if n > GREATEST_NUMBER:
+        return [OUT_OF_RANGE]
+    if n == 0:
+        return [NONE_THERE]
+    found = kind_and_factor(n)
+    return [0, found[0], found[1]]

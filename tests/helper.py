@@ -96,6 +96,10 @@ def order(u, v):
     return ask(lengths.order, u, v)
 
 
+def kind(n):
+    return ask(lengths.kind, n)
+
+
 def is_drawing(t):
     """Whether every call that is handed a text takes t as a drawing's text."""
     answers = (length(0, 0, t), compare(0, 0, t), beyond(0, 0, 1, t), sticks(0, 1, t))

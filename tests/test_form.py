@@ -10,7 +10,7 @@ from rootlength import lengths
 
 PACKAGE = pathlib.Path(lengths.__file__).parent
 README = PACKAGE.parent / "README.md"
-CALLS = {"length", "compare", "beyond", "sticks", "floor", "order"}
+CALLS = {"length", "compare", "beyond", "sticks", "floor", "order", "kind"}
 SOURCES = {path.name: path.read_text(encoding="utf-8") for path in sorted(PACKAGE.glob("*.py"))}
 
 CALLABLE = {"len", "range", "enumerate", "zip", "min", "max", "sum", "abs", "sorted", "reversed", "int", "str", "bool",
@@ -32,6 +32,7 @@ class Interface(unittest.TestCase):
         self.assertEqual(list(inspect.signature(lengths.sticks).parameters), ["a", "d", "t"])
         self.assertEqual(list(inspect.signature(lengths.floor).parameters), ["k", "u"])
         self.assertEqual(list(inspect.signature(lengths.order).parameters), ["u", "v"])
+        self.assertEqual(list(inspect.signature(lengths.kind).parameters), ["n"])
 
     def test_by_name(self):
         t = list(b"sign A\nstroke 0,0 3,4\n")
@@ -41,6 +42,7 @@ class Interface(unittest.TestCase):
         self.assertEqual(lengths.sticks(a=1, d=2, t=t), [0, 3])
         self.assertEqual(lengths.floor(k=1, u=[2, 9]), [0, 44])
         self.assertEqual(lengths.order(u=[2], v=[3]), [1])
+        self.assertEqual(lengths.kind(n=12), [0, 3, 2])
 
 
 class Readme(unittest.TestCase):
